@@ -1,0 +1,1 @@
+"""Told apart: two sources of letters, and how well words tell them apart."""
