@@ -1,24 +1,18 @@
 """Promise 3: apart."""
 
 import unittest
-from fractions import Fraction
 from itertools import product
 
-from lines import GREATEST, answers, as_answer, asked, chance_of, last, line, sources_of, told, words_of
+from lines import (
+    GREATEST, LONGEST_PAIRS, answers, as_answer, as_fraction, asked, chance_of, far_apart, last, line, sources_of, told,
+)
 
 LENGTHS = range(7)
 
 
-def far_apart(plain, other, length):
-    gaps = [abs(chance_of(plain, word) - chance_of(other, word)) for word in words_of(len(plain), length)]
-    return sum(gaps) / 2
-
-
 def all_lengths(plain, other):
     found = asked(*told(plain, other), *[("apart", length) for length in LENGTHS])[3:]
-    for answer in found:
-        assert len(answer) == 3 and answer[0] == 0
-    return [Fraction(upper, lower) for _, upper, lower in found]
+    return [as_fraction(answer) for answer in found]
 
 
 class Apart(unittest.TestCase):
@@ -53,7 +47,7 @@ class Apart(unittest.TestCase):
                 last(*told((1, 1, 3), (4, 4, 1)), ("apart", length)), last(*told((2, 3), (8, 1)), ("apart", length)))
 
     def test_six_letters_of_four(self):
-        for plain, other in (((1, 2, 3, 4), (4, 3, 2, 1)), ((9, 8, 7, 6), (0, 9, 0, 9)), ((9, 9, 9, 8), (9, 9, 8, 9))):
+        for plain, other in LONGEST_PAIRS:
             self.assertEqual(last(*told(plain, other), ("apart", 6)), as_answer(far_apart(plain, other, 6)))
 
     def test_many_pairs(self):

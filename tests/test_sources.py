@@ -1,10 +1,9 @@
-"""Promise 1: begin, plain, other, sourceis, swap."""
+"""Promise 1: begin, plain, other, sourceis, swap, count, samesource."""
 
 import unittest
+from itertools import product
 
-from lines import GREATEST, answers, asked, last, line, sources_of, told
-
-BOTH = [("sourceis", 0), ("sourceis", 1)]
+from lines import BOTH, GREATEST, NO_SOURCES, PAIRS, answers, asked, chance_of, last, line, sources_of, told
 
 
 class Begin(unittest.TestCase):
@@ -56,12 +55,7 @@ class TellingSources(unittest.TestCase):
                     self.assertEqual(last(("begin", letters), (name, *row)), [sum(row)])
 
     def test_what_is_no_source_is_refused_and_changes_nothing(self):
-        wrong = {
-            2: [(), (1,), (1, 1, 1), (0, 0), (10, 1), (1, 10), (0, GREATEST), (1, 1, 0), (1, 1, 1, 1, 1, 1)],
-            3: [(), (1, 1), (1, 1, 1, 1), (0, 0, 0), (10, 1, 1), (1, 10, 1), (1, 1, 10), (GREATEST, 0, 0)],
-            4: [(), (1, 1, 1), (1, 1, 1, 1, 1), (0, 0, 0, 0), (0, 0, 0, 10), (9, 9, 10, 9), (1, 1, 1, 1, 1, 1)],
-        }
-        for letters, rows in wrong.items():
+        for letters, rows in NO_SOURCES.items():
             before = told(tuple(range(1, 1 + letters)), tuple(range(5, 5 + letters)))
             for row in rows:
                 for name in ("plain", "other"):
@@ -95,6 +89,62 @@ class Swap(unittest.TestCase):
         found = asked(*told((1, 3), (1, 1)), *ask, ("swap",), *ask)
         self.assertEqual(found[3:7], [[0, 1, 4], [0, 1, 4], [1], [0, 2, 1]])
         self.assertEqual(found[8:], [[0, 1, 2], [0, 3, 16], [0], [0, 1, 2]])
+
+
+class Count(unittest.TestCase):
+    def test_the_whole_list(self):
+        calls = line(("begin", 3), ("count",), ("begin", 4), ("count",), ("begin", 2), ("count",))
+        self.assertEqual(answers(calls), [1, 0, 1, 3, 1, 0, 1, 4, 1, 0, 1, 2])
+
+    def test_a_refused_begin_changes_nothing_of_it(self):
+        for letters in (2, 3, 4):
+            for wrong in (0, 1, 5, GREATEST):
+                self.assertEqual(asked(("begin", letters), ("begin", wrong), ("count",)), [[0], [-22], [letters]])
+
+    def test_letters_that_are_not_drawn_count(self):
+        self.assertEqual(last(*told((0, 0, 1, 0), (0, 0, 9, 0)), ("count",)), [4])
+
+    def test_before_a_begin(self):
+        self.assertEqual(asked(("count",), ("begin", 5), ("count",)), [[-11], [-22], [-11]])
+
+
+class SameSource(unittest.TestCase):
+    def test_the_whole_list(self):
+        calls = line(
+            ("begin", 2), ("samesource",), ("plain", 1, 3), ("samesource",), ("other", 3, 9), ("samesource",),
+            ("other", 3, 1), ("samesource",))
+        self.assertEqual(answers(calls), [1, 0, 1, 1, 1, 4, 1, 0, 1, 12, 1, 1, 1, 4, 1, 0])
+
+    def test_greater_weights_alone_make_no_other_source(self):
+        for plain, other in (((1, 2, 3), (3, 6, 9)), ((9, 9), (1, 1)), ((4, 6), (6, 9)), ((0, 0, 7, 0), (0, 0, 2, 0))):
+            self.assertEqual(last(*told(plain, other), ("samesource",)), [1])
+            self.assertEqual(last(*told(other, plain), ("samesource",)), [1])
+
+    def test_one_letter_as_likely_is_not_enough(self):
+        for plain, other in (((2, 1, 1), (4, 3, 1)), ((1, 2, 1), (3, 4, 1)), ((1, 1, 1, 1), (1, 1, 0, 2))):
+            self.assertEqual(last(*told(plain, other), ("samesource",)), [0])
+
+    def test_the_same_weights_at_other_letters(self):
+        self.assertEqual(last(*told((1, 2), (2, 1)), ("samesource",)), [0])
+
+    def test_a_weight_of_none_in_the_one_alone(self):
+        self.assertEqual(last(*told((0, 1), (1, 1)), ("samesource",)), [0])
+        self.assertEqual(last(*told((1, 1), (0, 1)), ("samesource",)), [0])
+        self.assertEqual(last(*told((1, 0), (0, 1)), ("samesource",)), [0])
+
+    def test_many_pairs(self):
+        for letters, weights in ((2, range(10)), (3, (0, 1, 2, 6)), (4, (0, 3))):
+            for plain, other in product(sources_of(letters, weights), repeat=2):
+                same = all(chance_of(plain, (l,)) == chance_of(other, (l,)) for l in range(letters))
+                self.assertEqual(last(*told(plain, other), ("samesource",)), [int(same)])
+
+    def test_it_changes_nothing(self):
+        for plain, other in PAIRS:
+            found = asked(*told(plain, other), ("samesource",), ("count",), *BOTH)
+            self.assertEqual(found[4:], [[len(plain)], [len(plain), *plain], [len(other), *other]])
+
+    def test_before_a_begin(self):
+        self.assertEqual(asked(("samesource",), ("begin", 1), ("samesource",)), [[-11], [-22], [-11]])
 
 
 if __name__ == "__main__":

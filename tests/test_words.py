@@ -3,17 +3,7 @@
 import unittest
 from itertools import product
 
-from lines import GREATEST, answers, as_answer, asked, chance_of, last, line, sources_of, told, words_of
-
-BOTH = [("sourceis", 0), ("sourceis", 1)]
-
-# By rows: ordinary ones, a weight of 0 in the one alone, a letter that neither draws, the same source
-# told with greater weights, two letters alike, and one letter alone.
-PAIRS = (
-    ((1, 2), (3, 1)), ((0, 1), (1, 0)), ((0, 5), (2, 3)), ((2, 3), (0, 5)), ((1, 2), (3, 6)), ((9, 9), (1, 1)),
-    ((1, 2, 3), (3, 2, 1)), ((0, 2, 3), (0, 1, 9)), ((4, 4, 1), (1, 1, 7)), ((0, 0, 1), (1, 0, 0)),
-    ((1, 2, 3, 4), (4, 3, 2, 1)), ((0, 1, 0, 1), (1, 1, 0, 0)), ((9, 8, 7, 6), (0, 9, 0, 9)),
-)
+from lines import BOTH, GREATEST, PAIRS, answers, as_answer, asked, chance_of, last, line, sources_of, told, words_of
 
 
 def refused_words(letters):

@@ -46,33 +46,82 @@ def word_chance(weights, word):
     return fraction(word_weight(weights, word), power(sum(weights), len(word)))
 
 
+def with_one_total(plain_weights, other_weights):
+    # The same two sources, told with greater weights: with one total for both, how likely
+    # words are by the one and by the other compares as whole numbers.
+    plain_total = sum(plain_weights)
+    other_total = sum(other_weights)
+    level_plain = [weight * other_total for weight in plain_weights]
+    level_other = [weight * plain_total for weight in other_weights]
+    return (level_plain, level_other)
+
+
+def is_same_source(plain_weights, other_weights):
+    level = with_one_total(plain_weights, other_weights)
+    return level[0] == level[1]
+
+
 def chances_compared(plain_weights, other_weights, word):
-    # Each is taken times the other source's total, so that both are parts of the same
-    # whole and compare as whole numbers.
-    by_plain = word_weight(plain_weights, word) * power(sum(other_weights), len(word))
-    by_other = word_weight(other_weights, word) * power(sum(plain_weights), len(word))
-    return (by_plain, by_other)
+    level = with_one_total(plain_weights, other_weights)
+    return (word_weight(level[0], word), word_weight(level[1], word))
 
 
-def weights_of_all_words(weights, length):
-    # The order hangs on how many letters there are alone, so the lists of two sources
-    # tell of the same word at the same place.
-    found = [1]
+def one_letter_longer(many_of_pairs, level):
+    longer = {}
+    for pair, many in many_of_pairs.items():
+        for by_plain, by_other in zip(level[0], level[1]):
+            grown = (pair[0] * by_plain, pair[1] * by_other)
+            longer[grown] = longer.get(grown, 0) + many
+    return longer
+
+
+def all_words(plain_weights, other_weights, length):
+    # By how likely words are by the two sources, how many of them are so. The order of
+    # letters doesn't matter there, so 4,096 words of six letters of four are at most 84 pairs.
+    level = with_one_total(plain_weights, other_weights)
+    many_of_pairs = {(1, 1): 1}
     for place in range(length):
-        longer = []
-        for product in found:
-            for weight in weights:
-                longer.append(product * weight)
-        found = longer
-    return found
+        many_of_pairs = one_letter_longer(many_of_pairs, level)
+    return many_of_pairs
+
+
+def whole_of_words(plain_weights, other_weights, length):
+    # What all words come to together, by either source of all_words.
+    return power(sum(plain_weights) * sum(other_weights), length)
 
 
 def how_far_apart(plain_weights, other_weights, length):
-    plain_whole = power(sum(plain_weights), length)
-    other_whole = power(sum(other_weights), length)
-    plain_words = weights_of_all_words(plain_weights, length)
-    other_words = weights_of_all_words(other_weights, length)
+    many_of_pairs = all_words(plain_weights, other_weights, length)
     gap = 0
-    for by_plain, by_other in zip(plain_words, other_words):
-        gap = gap + abs(by_plain * other_whole - by_other * plain_whole)
-    return fraction(gap, 2 * plain_whole * other_whole)
+    for pair, many in many_of_pairs.items():
+        gap = gap + many * abs(pair[0] - pair[1])
+    return fraction(gap, 2 * whole_of_words(plain_weights, other_weights, length))
+
+
+def how_often_best_errs(plain_weights, other_weights, length):
+    far = how_far_apart(plain_weights, other_weights, length)
+    return fraction(far[1] - far[0], 2 * far[1])
+
+
+def how_many_said_other(plain_weights, other_weights, length):
+    many_of_pairs = all_words(plain_weights, other_weights, length)
+    return sum([many for pair, many in many_of_pairs.items() if pair[1] > pair[0]])
+
+
+def fewest_letters_apart(plain_weights, other_weights, hundredths):
+    for length in range(MOST_LETTERS_OF_A_WORD + 1):
+        far = how_far_apart(plain_weights, other_weights, length)
+        if far[0] * 100 >= hundredths * far[1]:
+            return length
+    return None
+
+
+def chance_above(plain_weights, other_weights, source, length, bound):
+    # Both sides are multiplied out: a word that the harmless source doesn't draw has no ratio,
+    # and is still at least any number of times as likely.
+    many_of_pairs = all_words(plain_weights, other_weights, length)
+    likely = 0
+    for pair, many in many_of_pairs.items():
+        if pair[1] * bound[1] >= pair[0] * bound[0]:
+            likely = likely + many * pair[source]
+    return fraction(likely, whole_of_words(plain_weights, other_weights, length))
